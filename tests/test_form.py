@@ -32,12 +32,38 @@ FORBIDDEN_WORDS = (
 ).split()
 
 
+# A method or value of the program's own bears no name that Python's own values have.
+TAKEN_NAMES = {name for kind in (str, int, list, tuple, dict, set, bytes) for name in dir(kind)}
+OWN_UNDERSCORED = ("__init__", "__eq__", "__repr__", "__str__", "__len__")
+
+
 def package_files():
     return sorted(path for path in PACKAGE.rglob("*") if path.is_file() and "__pycache__" not in path.parts)
 
 
 def trees():
     return [(path, ast.parse(path.read_text(encoding="utf-8"))) for path in package_files()]
+
+
+def own_attributes(tree):
+    """The methods of the classes, and the values that are given to an object."""
+    found = []
+    for node in ast.walk(tree):
+        if isinstance(node, ast.ClassDef):
+            found.extend(part.name for part in node.body if isinstance(part, ast.FunctionDef))
+        elif isinstance(node, ast.Attribute) and isinstance(node.ctx, ast.Store):
+            found.append(node.attr)
+    return found
+
+
+def top_names(tree):
+    found = []
+    for node in tree.body:
+        if isinstance(node, ast.Assign):
+            found.extend(target.id for target in node.targets)
+        elif isinstance(node, (ast.FunctionDef, ast.ClassDef)):
+            found.append(node.name)
+    return found
 
 
 def bound_names(tree):
@@ -103,11 +129,48 @@ class Code(unittest.TestCase):
                 if isinstance(node, ast.Name) and isinstance(node.ctx, ast.Load):
                     self.assertIn(node.id, own + ALLOWED_NAMES, path)
                 if isinstance(node, ast.Attribute):
-                    self.assertIn(node.attr, ALLOWED_METHODS, path)
+                    self.assertIn(node.attr, ALLOWED_METHODS + own_attributes(tree), path)
+
+    def test_own_methods_and_values_bear_free_names(self):
+        for path, tree in trees():
+            for name in own_attributes(tree):
+                self.assertTrue(name in OWN_UNDERSCORED or name not in TAKEN_NAMES, (path, name))
+
+    def test_each_name_at_the_top_is_bound_once(self):
+        for path, tree in trees():
+            names = top_names(tree)
+            self.assertEqual(len(names), len(set(names)), path)
+
+    def test_what_a_file_does_at_its_top(self):
+        for path, tree in trees():
+            for node in tree.body[1:]:
+                self.assertIsInstance(node, (ast.ImportFrom, ast.Assign, ast.FunctionDef, ast.ClassDef), path)
+            self.assertTrue(ast.get_docstring(tree), path)
+
+    def test_no_sign_of_division_within_a_text(self):
+        for path, tree in trees():
+            for node in ast.walk(tree):
+                if isinstance(node, ast.Constant) and isinstance(node.value, str):
+                    self.assertNotIn("%", node.value, path)
+
+    def test_is_stands_beside_none_true_and_false_alone(self):
+        for path, tree in trees():
+            for node in ast.walk(tree):
+                if isinstance(node, ast.Compare) and isinstance(node.ops[0], (ast.Is, ast.IsNot)):
+                    self.assertIsInstance(node.comparators[0], ast.Constant, path)
+
+    def test_an_assignment_has_one_plain_target(self):
+        for path, tree in trees():
+            for node in ast.walk(tree):
+                if isinstance(node, ast.Assign):
+                    self.assertEqual(len(node.targets), 1, path)
+                    self.assertIsInstance(node.targets[0], (ast.Name, ast.Attribute, ast.Subscript), path)
 
     def test_names_bound_are_plain_and_none_of_pythons_own(self):
         for path, tree in trees():
             for name in bound_names(tree):
+                if name in OWN_UNDERSCORED:
+                    continue
                 self.assertRegex(name, r"\A[A-Za-z][A-Za-z0-9_]*\Z", path)
                 self.assertNotIn(name, dir(builtins), path)
 

@@ -1,37 +1,11 @@
 """Promise 1: the words of the bytes, how many and they; -1 and -2 where they are refused."""
 
-import builtins
-import contextlib
-import io
-import re
-import sys
 import unittest
-from unittest import mock
 
 from cornersquares.pictures import words
+from helper import LEAST_INT, MOST_INT, EveryCall, expected_words, mixed_bytes, told
 
 ROOM = 174
-LEAST_INT = -2147483648
-MOST_INT = 2147483647
-
-
-def told(text):
-    """The numbers of a text, sign by sign: tests are easier to read so."""
-    return list(text.encode("latin-1"))
-
-
-def expected_words(data):
-    """The document's words found in another way: by a pattern that takes pairs from the left."""
-    found = []
-    for part in re.findall(rb"[0-9][0-9]|[\x00-\xff]", bytes(data), re.DOTALL):
-        if len(part) == 2:
-            found.append(130 + int(part))
-        elif part[0] < 128:
-            found.append(part[0] + 1)
-        else:
-            found.append(235)
-            found.append(part[0] - 127)
-    return found
 
 
 def expected_answer(most, data):
@@ -41,33 +15,6 @@ def expected_answer(most, data):
     if len(found) > min(most, 174):
         return [-2]
     return [len(found)] + found
-
-
-def mixed_bytes(seed, length):
-    """Bytes with many digits and high bytes among them, the same ones each time."""
-    data = []
-    state = seed
-    for _ in range(length):
-        state = (state * 1103515245 + 12345) % 2147483648
-        pick = state >> 16
-        choice = pick % 4
-        if choice < 2:
-            data.append(48 + (pick >> 2) % 10)
-        elif choice == 2:
-            data.append((pick >> 2) % 128)
-        else:
-            data.append(128 + (pick >> 2) % 128)
-    return data
-
-
-class GuardedList(list):
-    """A list that can be read only, so that a change for a while is seen too."""
-
-    def refuse(self, *args, **kwargs):
-        raise AssertionError("what was handed in was changed")
-
-    append = clear = extend = insert = pop = remove = reverse = sort = refuse
-    __setitem__ = __delitem__ = __iadd__ = __imul__ = refuse
 
 
 class OrdinaryBytes(unittest.TestCase):
@@ -222,7 +169,9 @@ class AgainstThePattern(unittest.TestCase):
                 self.assertEqual(words(most, data), expected_answer(most, data), (most, length))
 
 
-class WhatIsHandedInAndGivenBack(unittest.TestCase):
+class EveryCallOfWords(EveryCall, unittest.TestCase):
+    CALL = "words"
+    NAMES = ("most", "data")
     CASES = (
         (ROOM, told("x123y45") + [200]),
         (ROOM, []),
@@ -232,56 +181,14 @@ class WhatIsHandedInAndGivenBack(unittest.TestCase):
         (ROOM, told("1") * 349),
     )
 
-    def test_the_data_stays_as_it_was(self):
-        for most, data in self.CASES:
-            handed = list(data)
-            words(most, handed)
-            self.assertEqual(handed, data)
-
-    def test_the_data_is_not_changed_for_a_while_either(self):
-        for most, data in self.CASES:
-            self.assertEqual(words(most, GuardedList(data)), expected_answer(most, data))
-
-    def test_a_call_made_again_answers_the_same(self):
-        first = [words(most, list(data)) for most, data in self.CASES]
-        again = [words(most, list(data)) for most, data in reversed(self.CASES)]
-        self.assertEqual(first, again[::-1])
-
-    def test_a_changed_answer_is_not_seen_by_the_next_call(self):
-        for most, data in self.CASES:
-            answer = words(most, data)
-            kept = list(answer)
-            answer.append(7)
-            answer[0] = 99
-            self.assertEqual(words(most, data), kept)
+    def test_the_answers_are_the_documents(self):
+        self.assertEqual(self.answers(), [expected_answer(most, data) for most, data in self.CASES])
 
     def test_the_same_list_with_other_bytes_is_read_anew(self):
         data = told("12")
         self.assertEqual(words(ROOM, data), [1, 142])
         data[1] = 65
         self.assertEqual(words(ROOM, data), [2, 50, 66])
-
-    def test_lists_of_whole_numbers_are_given_back(self):
-        for most, data in self.CASES:
-            answer = words(most, data)
-            self.assertIs(type(answer), list)
-            for number in answer:
-                self.assertIs(type(number), int)
-
-    def test_the_arguments_bear_the_documents_names(self):
-        self.assertEqual(words(most=1, data=[65]), [1, 66])
-
-    def test_it_prints_reads_and_imports_nothing(self):
-        out = io.StringIO()
-        err = io.StringIO()
-        refuse = mock.Mock(side_effect=AssertionError("not to be called"))
-        with contextlib.redirect_stdout(out), contextlib.redirect_stderr(err):
-            with mock.patch.object(builtins, "open", refuse), mock.patch.object(builtins, "input", refuse):
-                with mock.patch.object(builtins, "__import__", refuse), mock.patch.object(sys, "stdin", None):
-                    answers = [words(most, data) for most, data in self.CASES]
-        self.assertEqual(answers, [expected_answer(most, data) for most, data in self.CASES])
-        self.assertEqual(out.getvalue() + err.getvalue(), "")
-        refuse.assert_not_called()
 
 
 if __name__ == "__main__":
