@@ -4,7 +4,9 @@ MOST_BYTES = 348
 MOST_WORDS = 174
 
 TOO_MANY_BYTES = -1
+NO_SUCH_SIZE = -1
 TOO_MANY_WORDS = -2
+NOT_A_PICTURE = -3
 
 FIRST_DIGIT = 48
 LAST_DIGIT = 57
@@ -262,3 +264,23 @@ def make(data):
     size = min([side for side in DATA_WORDS if DATA_WORDS[side] >= found[0]])
     full = filled(found[1:], DATA_WORDS[size])
     return [size] + picture(size, way_of(size), full + mending_words(full, MENDING_WORDS[size]))
+
+
+def word_in(size, rows, cells):
+    word = 0
+    for cell in cells:
+        row = rows[past_borders(size, cell[0])]
+        word = word * 2 + ((row >> past_borders(size, cell[1])) & 1)
+    return word
+
+
+def look(size, rows):
+    """The words of a picture as they stand, behind how many they are; or a refusal alone."""
+    if size not in DATA_WORDS:
+        return [NO_SUCH_SIZE]
+    way = way_of(size)
+    found = [word_in(size, rows, cells) for cells in way.stands]
+    # A picture of these words has the same cells wherever a word is; so only what has no word can differ.
+    if picture(size, way, found) != rows:
+        return [NOT_A_PICTURE]
+    return [len(found)] + found
