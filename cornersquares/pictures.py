@@ -7,6 +7,7 @@ TOO_MANY_BYTES = -1
 NO_SUCH_SIZE = -1
 TOO_MANY_WORDS = -2
 NOT_A_PICTURE = -3
+NOT_MENDED = -4
 
 FIRST_DIGIT = 48
 LAST_DIGIT = 57
@@ -118,6 +119,9 @@ class Field:
         if left == 0 or right == 0:
             return 0
         return self.power(self.exponents[left] + self.exponents[right])
+
+    def inverse(self, number):
+        return self.power(-self.exponents[number])
 
 
 def product(field, left, right):
@@ -284,3 +288,59 @@ def look(size, rows):
     if picture(size, way, found) != rows:
         return [NOT_A_PICTURE]
     return [len(found)] + found
+
+
+def value_at(field, factors, point):
+    """The value of a polynomial whose highest power's factor comes first."""
+    value = 0
+    for factor in factors:
+        value = field.times(value, point) ^ factor
+    return value
+
+
+def locator(field, sums):
+    """The shortest rule by which each sum follows from those ahead of it, as Berlekamp and Massey find it."""
+    rule = [1] + [0] * len(sums)
+    earlier = list(rule)
+    length = 0
+    for step in range(len(sums)):
+        earlier = [0] + earlier[:-1]
+        gap = 0
+        for place in range(length + 1):
+            gap = gap ^ field.times(rule[place], sums[step - place])
+        if gap != 0:
+            better = [factor ^ field.times(gap, other) for factor, other in zip(rule, earlier)]
+            if 2 * length <= step:
+                earlier = [field.times(field.inverse(gap), factor) for factor in rule]
+                length = step + 1 - length
+            rule = better
+    return rule[:length + 1]
+
+
+def mended(field, found, sums, rule, places):
+    """The words with those at the places set right, by Forney's way."""
+    count = len(rule) - 1
+    above = product(field, rule, sums)[:count]
+    below = [rule[place] if place % 2 == 1 else 0 for place in range(1, count + 1)]
+    right = list(found)
+    for place in places:
+        point = field.power(len(found) - 1 - place)
+        under = field.inverse(value_at(field, below, point))
+        right[place] = right[place] ^ field.times(value_at(field, above, point), under)
+    return right
+
+
+def mend(size, words):
+    """The words as they must be, behind how many were wrong; or a refusal alone."""
+    if size not in DATA_WORDS:
+        return [NO_SUCH_SIZE]
+    field = Field()
+    count = MENDING_WORDS[size]
+    sums = [value_at(field, words, field.power(exponent)) for exponent in range(1, count + 1)]
+    rule = locator(field, sums)
+    last = len(words) - 1
+    places = [place for place in range(len(words)) if value_at(field, rule, field.power(last - place)) == 0]
+    # Words that can be mended have a rule as long as the wrong ones are many, and it is 0 at each of these.
+    if len(rule) - 1 > count // 2 or len(places) != len(rule) - 1:
+        return [NOT_MENDED]
+    return [len(places)] + mended(field, words, sums, rule, places)
