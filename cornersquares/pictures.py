@@ -8,13 +8,16 @@ NO_SUCH_SIZE = -1
 TOO_MANY_WORDS = -2
 NOT_A_PICTURE = -3
 NOT_MENDED = -4
+NOT_READ = -5
 
 FIRST_DIGIT = 48
 LAST_DIGIT = 57
 FIRST_HIGH_BYTE = 128
 
+LAST_LOW_WORD = 128
 END_WORD = 129
 FIRST_PAIR_WORD = 130
+LAST_PAIR_WORD = 229
 HIGH_BYTE_WORD = 235
 
 # The columns of the table of sizes, each by cells a side.
@@ -344,3 +347,50 @@ def mend(size, words):
     if len(rule) - 1 > count // 2 or len(places) != len(rule) - 1:
         return [NOT_MENDED]
     return [len(places)] + mended(field, words, sums, rule, places)
+
+
+def is_low_word(word):
+    return 1 <= word <= LAST_LOW_WORD
+
+
+def bytes_at(found, place):
+    """The bytes of the word at a place, with the one behind a 235; none if it isn't read."""
+    word = found[place]
+    if is_low_word(word):
+        return [word - 1]
+    if FIRST_PAIR_WORD <= word <= LAST_PAIR_WORD:
+        pair = word - FIRST_PAIR_WORD
+        return [FIRST_DIGIT + pair // 10, FIRST_DIGIT + pair % 10]
+    if word == HIGH_BYTE_WORD and place + 1 < len(found) and is_low_word(found[place + 1]):
+        return [found[place + 1] + FIRST_HIGH_BYTE - 1]
+    return []
+
+
+def data_bytes(found):
+    """The bytes of the data's words, or None if they aren't read."""
+    data = []
+    place = 0
+    while place < len(found) and found[place] != END_WORD:
+        piece = bytes_at(found, place)
+        if piece == []:
+            return None
+        data.extend(piece)
+        place = place + (2 if found[place] == HIGH_BYTE_WORD else 1)
+    # Where there is no 129, no room is left to fill up, and this holds by itself.
+    if filled(found[:place], len(found)) != found:
+        return None
+    return data
+
+
+def read(size, rows):
+    """The bytes of a picture, behind how many they are and how many words were wrong; or a refusal alone."""
+    seen = look(size, rows)
+    if seen[0] < 0:
+        return seen
+    right = mend(size, seen[1:])
+    if right[0] < 0:
+        return right
+    data = data_bytes(right[1:DATA_WORDS[size] + 1])
+    if data is None:
+        return [NOT_READ]
+    return [len(data), right[0]] + data

@@ -22,6 +22,16 @@ SIZES = tuple(TABLE)
 NO_SIZES = (0, -1, -10, -48, 9, 11, 28, 30, 34, 46, 50, LEAST_INT, MOST_INT)
 
 
+def count_of(size):
+    """How many words a size has, the data's and those that mend."""
+    return TABLE[size][0] + TABLE[size][1]
+
+
+def most_wrong(size):
+    """How many wrong words can be mended at the most."""
+    return TABLE[size][1] // 2
+
+
 def told(text):
     """The numbers of a text, sign by sign: tests are easier to read so."""
     return list(text.encode("latin-1"))
@@ -63,6 +73,14 @@ def expected_words(data):
             found.append(235)
             found.append(part[0] - 127)
     return found
+
+
+def mixed_bytes_of_words(count, seed):
+    """Mixed bytes that make just so many words."""
+    data = mixed_bytes(seed, 2 * count)
+    while len(expected_words(data)) > count:
+        data.pop()
+    return data + [0] * (count - len(expected_words(data)))
 
 
 def filling(place):
@@ -346,7 +364,8 @@ class EveryCall:
                 self.assertEqual(len(answer), 1)
 
     def test_the_arguments_bear_the_documents_names(self):
-        named = [getattr(pictures, self.CALL)(**dict(zip(self.NAMES, copied(case), strict=True))) for case in self.CASES]
+        call = getattr(pictures, self.CALL)
+        named = [call(**dict(zip(self.NAMES, copied(arguments), strict=True))) for arguments in self.CASES]
         self.assertEqual(named, self.answers())
 
     def test_it_prints_reads_and_imports_nothing(self):

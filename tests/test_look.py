@@ -4,13 +4,9 @@ import unittest
 
 from cornersquares.pictures import look, make
 from helper import (
-    LAID_OUT, NO_SIZES, SIZES, TABLE, EveryCall, any_numbers, bit, border_cells, expected_words, field_lines, filled_up,
-    mixed_bytes, picture_of, row_of, told, turned, words_in,
+    LAID_OUT, NO_SIZES, SIZES, TABLE, EveryCall, any_numbers, bit, border_cells, count_of, expected_words, field_lines,
+    filled_up, mixed_bytes, picture_of, row_of, told, turned, words_in,
 )
-
-
-def count_of(size):
-    return TABLE[size][0] + TABLE[size][1]
 
 
 def any_words(size, seed=1):

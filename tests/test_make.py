@@ -2,10 +2,11 @@
 
 import unittest
 
-from cornersquares.pictures import make
+from cornersquares.pictures import Way, make
 from helper import (
-    LAID_OUT, SIZES, TABLE, EveryCall, any_numbers, bit, expected_words, field_lines, filled_up, is_as_it_must_be,
-    mixed_bytes, picture_of, sums_of, told, way_through, words_in,
+    LAID_OUT, SIZES, TABLE, EveryCall, any_numbers, bit, corner_a, corner_b, corner_c, corner_d, expected_words,
+    field_lines, filled_up, is_as_it_must_be, mixed_bytes, mixed_bytes_of_words, picture_of, sums_of, told,
+    way_through, words_in,
 )
 
 # Pictures that were made without this program and without the tests' helper: how many bytes, then the rows, each
@@ -100,10 +101,7 @@ def bytes_of_words(count, kind):
         return [48 + number for number in any_numbers(count, 2 * count, 10)]
     if kind == "high":
         return [128 + number for number in any_numbers(count, count // 2, 128)] + [90] * (count % 2)
-    data = mixed_bytes(count, 2 * count)
-    while len(expected_words(data)) > count:
-        data.pop()
-    return data + [0] * (count - len(expected_words(data)))
+    return mixed_bytes_of_words(count, count)
 
 
 KINDS = ("letters", "digits", "high", "mixed")
@@ -219,6 +217,38 @@ class OrdinaryBytes(PictureCase):
         for byte in (0, 127, 128, 255):
             for length in (1, 2, 3, 20, 60, 87):
                 self.check([byte] * length, least_size_for(length * (2 if byte > 127 else 1)))
+
+
+class Corners(unittest.TestCase):
+    """No size of the table has a way that comes by C or D, so the corners are asked for by themselves here."""
+
+    def corners_at(self, side, row, column):
+        way = Way(side)
+        way.row = row
+        way.column = column
+        way.pass_corners()
+        self.assertEqual((way.row, way.column), (row, column))
+        return way.stands
+
+    def test_corner_a(self):
+        for side in range(8, 46, 2):
+            self.assertEqual(self.corners_at(side, side, 0), [corner_a(side)])
+
+    def test_corners_b_and_c(self):
+        for side in range(8, 46, 2):
+            corners = {0: [], 2: [corner_b(side)], 4: [corner_c(side)], 6: [corner_b(side)]}
+            self.assertEqual(self.corners_at(side, side - 2, 0), corners[side % 8])
+
+    def test_corner_d(self):
+        for side in range(8, 46, 2):
+            self.assertEqual(self.corners_at(side, side + 4, 2), [corner_d(side)] if side % 8 == 0 else [])
+
+    def test_no_corner_elsewhere(self):
+        for side in (8, 10, 12, 14):
+            for row in range(side + 8):
+                for column in range(side + 8):
+                    if (row, column) not in ((side, 0), (side - 2, 0), (side + 4, 2)):
+                        self.assertEqual(self.corners_at(side, row, column), [])
 
 
 class FillingWords(unittest.TestCase):

@@ -5,17 +5,9 @@ import unittest
 
 from cornersquares.pictures import look, make, mend
 from helper import (
-    INVERSE, NO_SIZES, POWERS, SIZES, TABLE, TIMES, EveryCall, any_numbers, is_as_it_must_be, mixed_bytes,
-    polynomial_with_roots, row_of, sums_of, told,
+    INVERSE, NO_SIZES, POWERS, SIZES, TABLE, TIMES, EveryCall, any_numbers, count_of, is_as_it_must_be, mixed_bytes,
+    most_wrong, polynomial_with_roots, row_of, sums_of, told,
 )
-
-
-def count_of(size):
-    return TABLE[size][0] + TABLE[size][1]
-
-
-def most_wrong(size):
-    return TABLE[size][1] // 2
 
 
 def any_row(size, seed=1):
